@@ -92,7 +92,7 @@ func TestSeal(t *testing.T) {
 		}
 		for i := 0; i+4 <= len(s); i++ {
 			c := bytes.Clone(s)
-			c[i], c[i+1], c[i+2], c[i+3] = c[i]^9, c[i+1]^200, c[i+2], c[i+3]^1
+			c[i], c[i+1], c[i+3] = c[i]^9, c[i+1]^200, c[i+3]^1
 			if _, e := Open(c); e != api.ErrSum {
 				t.Error(n, i, e)
 			}
