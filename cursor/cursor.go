@@ -1,0 +1,70 @@
+// Package cursor reads parts of bytes, one behind the other; the first fault is a panic, caught at the face of whoever reads.
+package cursor
+
+import (
+	"plinth/api"
+	"plinth/octets"
+)
+
+// Fault is the value of a panic by which a row of steps ends.
+type Fault struct{ Errno api.Errno }
+
+// Stop ends a row of steps, if there is an error.
+func Stop(e api.Errno) {
+	if e != api.OK {
+		panic(Fault{e})
+	}
+}
+
+// Catch is deferred at a face: a fault is its error. What is no fault goes on.
+func Catch(e *api.Errno) {
+	x := recover()
+	if x == nil {
+		return
+	}
+	f, ok := x.(Fault)
+	if !ok {
+		panic(x)
+	}
+	*e = f.Errno
+}
+
+// Left is bytes of which some were read.
+type Left struct {
+	bytes []byte
+	at    int
+}
+
+// Of begins at the first byte.
+func Of(b []byte) Left { return Left{bytes: b} }
+
+// At is the place up to which all was read.
+func (l *Left) At() int { return l.at }
+
+// Rest is what was not read yet.
+func (l *Left) Rest() []byte { return l.bytes[l.at:] }
+
+// Pass takes n bytes for read that somebody else has read from Rest.
+func (l *Left) Pass(n int) { l.at += n }
+
+// Number reads a number of n bytes.
+func (l *Left) Number(n int) uint64 {
+	v, at, e := octets.Get(l.bytes, l.at, n)
+	Stop(e)
+	l.at = at
+	return v
+}
+
+// Int reads a number of n bytes; one that an int does not hold is below 0.
+func (l *Left) Int(n int) int { return int(l.Number(n)) }
+
+// Text reads a text; one that is too long is no text.
+func (l *Left) Text() []byte {
+	s, at, e := octets.GetText(l.bytes, l.at)
+	if e == api.ErrLong {
+		e = api.ErrBytes
+	}
+	Stop(e)
+	l.at = at
+	return s
+}
