@@ -19,3 +19,45 @@ func Result(r api.Result) api.Result {
 	r.Data = slices.Clone(r.Data)
 	return r
 }
+
+// Group copies a group.
+func Group(g api.Group) api.Group {
+	g.Members = slices.Clone(g.Members)
+	return g
+}
+
+// Entry copies an entry.
+func Entry(e api.Entry) api.Entry {
+	e.Op = Op(e.Op)
+	e.Group = Group(e.Group)
+	return e
+}
+
+// Entries copies a row of entries.
+func Entries(l []api.Entry) []api.Entry { return each(l, Entry) }
+
+// State copies a state.
+func State(st api.State) api.State {
+	st.Pages = each(st.Pages, func(p api.Page) api.Page {
+		p.Data = slices.Clone(p.Data)
+		return p
+	})
+	st.Rows = each(st.Rows, func(r api.Row) api.Row {
+		r.Result = Result(r.Result)
+		return r
+	})
+	st.Group = Group(st.Group)
+	return st
+}
+
+// each copies a row, one by one.
+func each[T any](l []T, one func(T) T) []T {
+	if len(l) == 0 {
+		return nil
+	}
+	out := make([]T, len(l))
+	for i := range l {
+		out[i] = one(l[i])
+	}
+	return out
+}

@@ -38,3 +38,69 @@ func Rows(l []api.Row) bool {
 	}
 	return true
 }
+
+// Node: is it one from 0 to MaxNode less 1?
+func Node(n int) bool { return n >= 0 && n < api.MaxNode }
+
+// Group: may it be one?
+func Group(g api.Group) bool {
+	if !Number(g.Epoch) || len(g.Members) < 1 || len(g.Members) > api.MaxGroup {
+		return false
+	}
+	ahead := -1
+	for _, m := range g.Members {
+		if m <= ahead || !Node(m) {
+			return false
+		}
+		ahead = m
+	}
+	return true
+}
+
+// Entry: may it be one?
+func Entry(e api.Entry) bool {
+	if !Serial(e.Num) || !Number(e.View) || !Serial(e.Client) || !Serial(e.Serial) {
+		return false
+	}
+	switch e.Kind {
+	case api.EOp:
+		return block.Form(e.Op) == api.OK && NoGroup(e.Group)
+	case api.EConf:
+		return Group(e.Group) && NoOp(e.Op)
+	}
+	return false
+}
+
+// Entries: may each be one, and are they numbered without a gap?
+func Entries(l []api.Entry) bool {
+	for i, e := range l {
+		if !Entry(e) || e.Num != l[0].Num+i {
+			return false
+		}
+	}
+	return true
+}
+
+// State: may it be one?
+func State(st api.State) bool {
+	if !Number(st.Num) || block.Shape(st.Shape) != api.OK || !Pages(st.Shape, st.Pages) || !Rows(st.Rows) || !Group(st.Group) {
+		return false
+	}
+	for _, p := range st.Pages {
+		if p.Version > st.Num {
+			return false
+		}
+	}
+	return true
+}
+
+// NoOp: is nothing asked for?
+func NoOp(o api.Op) bool { return block.Same(o, api.Op{}) }
+
+// NoGroup: is nothing of a group told?
+func NoGroup(g api.Group) bool { return g.Epoch == 0 && len(g.Members) == 0 }
+
+// NoState: is nothing of a state told?
+func NoState(st api.State) bool {
+	return st.Num == 0 && st.Shape == api.Shape{} && len(st.Pages) == 0 && len(st.Rows) == 0 && NoGroup(st.Group)
+}
