@@ -1,33 +1,11 @@
-// Package cursor reads parts of bytes, one behind the other; the first fault is a panic, caught at the face of whoever reads.
+// Package cursor reads parts of bytes, one behind the other; the first fault ends that (package fault).
 package cursor
 
 import (
 	"plinth/api"
+	"plinth/fault"
 	"plinth/octets"
 )
-
-// Fault is the value of a panic by which a row of steps ends.
-type Fault struct{ Errno api.Errno }
-
-// Stop ends a row of steps, if there is an error.
-func Stop(e api.Errno) {
-	if e != api.OK {
-		panic(Fault{e})
-	}
-}
-
-// Catch is deferred at a face: a fault is its error. What is no fault goes on.
-func Catch(e *api.Errno) {
-	x := recover()
-	if x == nil {
-		return
-	}
-	f, ok := x.(Fault)
-	if !ok {
-		panic(x)
-	}
-	*e = f.Errno
-}
 
 // Left is bytes of which some were read.
 type Left struct {
@@ -50,7 +28,7 @@ func (l *Left) Pass(n int) { l.at += n }
 // Number reads a number of n bytes.
 func (l *Left) Number(n int) uint64 {
 	v, at, e := octets.Get(l.bytes, l.at, n)
-	Stop(e)
+	fault.Stop(e)
 	l.at = at
 	return v
 }
@@ -64,7 +42,7 @@ func (l *Left) Text() []byte {
 	if e == api.ErrLong {
 		e = api.ErrBytes
 	}
-	Stop(e)
+	fault.Stop(e)
 	l.at = at
 	return s
 }

@@ -4,14 +4,14 @@ import (
 	"testing"
 
 	"plinth/api"
+	"plinth/fault"
 )
 
 func read(b []byte) (v uint64, s string, at int, e api.Errno) {
-	defer Catch(&e)
+	defer fault.Catch(&e)
 	l := Of(b)
 	n := l.Number(2)
 	text := l.Text()
-	Stop(api.OK)
 	return n, string(text), l.At(), api.OK
 }
 
@@ -36,15 +36,4 @@ func TestLeft(t *testing.T) {
 	if l.At() != 9 {
 		t.Error(l.At())
 	}
-}
-
-func TestOtherPanics(t *testing.T) {
-	defer func() {
-		if recover() != "other" {
-			t.Error("a panic that is no fault was caught")
-		}
-	}()
-	var e api.Errno
-	defer Catch(&e)
-	panic("other")
 }

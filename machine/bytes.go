@@ -7,6 +7,7 @@ import (
 	"plinth/api"
 	"plinth/block"
 	"plinth/cursor"
+	"plinth/fault"
 	"plinth/may"
 	"plinth/octets"
 	"plinth/table"
@@ -43,11 +44,11 @@ func EncodeEntry(e api.Entry) ([]byte, api.Errno) {
 
 // DecodeEntry tells the entry at the beginning of bytes, and how many it has.
 func DecodeEntry(b []byte) (e api.Entry, n int, errno api.Errno) {
-	defer cursor.Catch(&errno)
+	defer fault.Catch(&errno)
 	r := reader{cursor.Of(b)}
 	got := r.entry()
 	if !may.Entry(got) {
-		cursor.Stop(api.ErrBytes)
+		fault.Stop(api.ErrBytes)
 	}
 	return got, r.At(), api.OK
 }
@@ -80,14 +81,14 @@ func EncodeState(st api.State) ([]byte, api.Errno) {
 
 // DecodeState tells the state at the beginning of bytes, and how many it has.
 func DecodeState(b []byte) (st api.State, n int, errno api.Errno) {
-	defer cursor.Catch(&errno)
+	defer fault.Catch(&errno)
 	r := reader{cursor.Of(b)}
 	got := r.state()
 	if !may.State(got) {
-		cursor.Stop(api.ErrBytes)
+		fault.Stop(api.ErrBytes)
 	}
 	if r.At() > api.MaxState {
-		cursor.Stop(api.ErrLong)
+		fault.Stop(api.ErrLong)
 	}
 	return got, r.At(), api.OK
 }
@@ -137,7 +138,7 @@ func (r *reader) entry() api.Entry {
 	switch e.Kind {
 	case api.EOp:
 		op, n, errno := block.DecodeOp(r.Rest())
-		cursor.Stop(errno)
+		fault.Stop(errno)
 		r.Pass(n)
 		e.Op = op
 	case api.EConf:
@@ -164,7 +165,7 @@ func (r *reader) state() api.State {
 	for range r.Number(1) {
 		row := api.Row{Client: r.Int(8), Serial: r.Int(8)}
 		result, n, errno := block.DecodeResult(r.Rest())
-		cursor.Stop(errno)
+		fault.Stop(errno)
 		r.Pass(n)
 		row.Result = result
 		st.Rows = append(st.Rows, row)
