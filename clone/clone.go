@@ -61,3 +61,39 @@ func each[T any](l []T, one func(T) T) []T {
 	}
 	return out
 }
+
+// Ledger copies a ledger.
+func Ledger(l api.Ledger) api.Ledger {
+	return api.Ledger{State: State(l.State), Log: Entries(l.Log)}
+}
+
+// Msg copies a message.
+func Msg(m api.Msg) api.Msg {
+	m.Op = Op(m.Op)
+	m.Result = Result(m.Result)
+	m.Group = Group(m.Group)
+	m.State = State(m.State)
+	m.Log = Entries(m.Log)
+	return m
+}
+
+// Tail copies a tail.
+func Tail(t api.Tail) api.Tail {
+	t.State = State(t.State)
+	t.Log = Entries(t.Log)
+	return t
+}
+
+// Tails copies a row of tails.
+func Tails(l []api.Tail) []api.Tail { return each(l, Tail) }
+
+// Core copies a core.
+func Core(c api.Core) api.Core {
+	c.Group = Group(c.Group)
+	c.L = Ledger(c.L)
+	c.Acks = slices.Clone(c.Acks)
+	c.Wants = slices.Clone(c.Wants)
+	c.Tails = Tails(c.Tails)
+	c.Answers = each(c.Answers, Msg)
+	return c
+}

@@ -1,4 +1,4 @@
-// Package cursor reads parts of bytes, one behind the other; the first fault ends that (package fault).
+// Package cursor reads parts of bytes, one behind the other; the first fault ends that (package fault). It also writes those that several layers have.
 package cursor
 
 import (
@@ -45,4 +45,29 @@ func (l *Left) Text() []byte {
 	fault.Stop(e)
 	l.at = at
 	return s
+}
+
+// Group reads a group's parts.
+func (l *Left) Group() api.Group {
+	g := api.Group{Epoch: l.Int(8)}
+	for range l.Number(1) {
+		g.Members = append(g.Members, l.Int(1))
+	}
+	return g
+}
+
+// Group tells the bytes of a group that may be.
+func Group(g api.Group) []byte {
+	b := append(Ints(8, g.Epoch), byte(len(g.Members)))
+	return append(b, Ints(1, g.Members...)...)
+}
+
+// Ints tells numbers that fit, of n bytes each; of one below 0, and 8 bytes, 2^64 added.
+func Ints(n int, l ...int) []byte {
+	all := make([]uint64, len(l))
+	for i, v := range l {
+		all[i] = uint64(v)
+	}
+	b, _ := octets.PutAll(nil, n, all...)
+	return b
 }

@@ -9,7 +9,6 @@ import (
 	"plinth/cursor"
 	"plinth/fault"
 	"plinth/may"
-	"plinth/octets"
 	"plinth/table"
 )
 
@@ -34,9 +33,9 @@ func EncodeEntry(e api.Entry) ([]byte, api.Errno) {
 	if errno := Entry(e); errno != api.OK {
 		return nil, errno
 	}
-	b, _ := octets.PutAll([]byte{byte(e.Kind)}, 8, uint64(e.Num), uint64(e.View), uint64(e.Client), uint64(e.Serial))
+	b := append([]byte{byte(e.Kind)}, cursor.Ints(8, e.Num, e.View, e.Client, e.Serial)...)
 	if e.Kind == api.EConf {
-		return append(b, groupBytes(e.Group)...), api.OK
+		return append(b, cursor.Group(e.Group)...), api.OK
 	}
 	op, _ := block.EncodeOp(e.Op)
 	return append(b, op...), api.OK
@@ -58,21 +57,21 @@ func EncodeState(st api.State) ([]byte, api.Errno) {
 	if !may.State(st) {
 		return nil, api.ErrState
 	}
-	b := join(8, st.Num)
-	b = append(b, join(4, st.Shape.Blocks, st.Shape.Size, len(st.Pages))...)
+	b := cursor.Ints(8, st.Num)
+	b = append(b, cursor.Ints(4, st.Shape.Blocks, st.Shape.Size, len(st.Pages))...)
 	for _, p := range st.Pages {
-		b = append(b, join(4, p.At)...)
-		b = append(b, join(8, p.Version)...)
-		b = append(b, join(4, len(p.Data))...)
+		b = append(b, cursor.Ints(4, p.At)...)
+		b = append(b, cursor.Ints(8, p.Version)...)
+		b = append(b, cursor.Ints(4, len(p.Data))...)
 		b = append(b, p.Data...)
 	}
 	b = append(b, byte(len(st.Rows)))
 	for _, row := range st.Rows {
-		b = append(b, join(8, row.Client, row.Serial)...)
+		b = append(b, cursor.Ints(8, row.Client, row.Serial)...)
 		result, _ := block.EncodeResult(row.Result)
 		b = append(b, result...)
 	}
-	b = append(b, groupBytes(st.Group)...)
+	b = append(b, cursor.Group(st.Group)...)
 	if len(b) > api.MaxState {
 		return nil, api.ErrLong
 	}
@@ -113,22 +112,6 @@ func sameGroup(a, b api.Group) bool {
 	return a.Epoch == b.Epoch && slices.Equal(a.Members, b.Members)
 }
 
-// groupBytes are a group's that may be.
-func groupBytes(g api.Group) []byte {
-	b := append(join(8, g.Epoch), byte(len(g.Members)))
-	return append(b, join(1, g.Members...)...)
-}
-
-// join is numbers that fit, of n bytes each.
-func join(n int, l ...int) []byte {
-	var b []byte
-	for _, v := range l {
-		p, _ := octets.Put(nil, uint64(v), n)
-		b = append(b, p...)
-	}
-	return b
-}
-
 // reader reads entries and states from the bytes that are left.
 type reader struct{ cursor.Left }
 
@@ -142,18 +125,9 @@ func (r *reader) entry() api.Entry {
 		r.Pass(n)
 		e.Op = op
 	case api.EConf:
-		e.Group = r.group()
+		e.Group = r.Group()
 	}
 	return e
-}
-
-// group reads a group's parts.
-func (r *reader) group() api.Group {
-	g := api.Group{Epoch: r.Int(8)}
-	for range r.Number(1) {
-		g.Members = append(g.Members, r.Int(1))
-	}
-	return g
 }
 
 // state reads a state's parts.
@@ -170,6 +144,6 @@ func (r *reader) state() api.State {
 		row.Result = result
 		st.Rows = append(st.Rows, row)
 	}
-	st.Group = r.group()
+	st.Group = r.Group()
 	return st
 }
