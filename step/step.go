@@ -53,11 +53,16 @@ func (s *Step) Say(to int, m api.Msg) {
 	s.said = append(s.said, clone.Msg(m))
 }
 
+// Others does something for each other member, in order.
+func (s *Step) Others(do func(to int)) {
+	for _, to := range group.Others(s.Group, s.Me) {
+		do(to)
+	}
+}
+
 // SayOthers says a message of its to each other member, in order.
 func (s *Step) SayOthers(m api.Msg) {
-	for _, to := range group.Others(s.Group, s.Me) {
-		s.Say(to, m)
-	}
+	s.Others(func(to int) { s.Say(to, m) })
 }
 
 // Raise commits up to a number, as far as the log goes, if that is more than was.
@@ -74,3 +79,15 @@ func (s *Step) Settle(view int) {
 
 // Forget forgets what was counted, and what was heard.
 func (s *Step) Forget() { s.Acks, s.Wants, s.Tails, s.Quiet = nil, nil, nil, 0 }
+
+// Adopt takes the log that a message tells, and is normal in its view; where the log does not join, nothing.
+func (s *Step) Adopt(m api.Msg) bool {
+	l, e := ledger.Take(s.L, s.Commit, m.State, m.Log)
+	if e != api.OK || l.State.Num > s.Commit && l.State.Num > m.Commit {
+		return false
+	}
+	s.L = l
+	s.Settle(m.View)
+	s.Raise(m.Commit)
+	return true
+}
