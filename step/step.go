@@ -48,8 +48,11 @@ func (s *Step) Active() bool { return s.Status == api.SNormal || s.Wanting() }
 func (s *Step) Member() bool { return group.Has(s.Group, s.Me) }
 
 // Say says a message of its to a node.
-func (s *Step) Say(to int, m api.Msg) {
-	m.From, m.To, m.Epoch, m.View = s.Me, to, s.Group.Epoch, s.View
+func (s *Step) Say(to int, m api.Msg) { s.SayIn(s.View, to, m) }
+
+// SayIn says a message of its to a node, but of another view.
+func (s *Step) SayIn(view, to int, m api.Msg) {
+	m.From, m.To, m.Epoch, m.View = s.Me, to, s.Group.Epoch, view
 	s.said = append(s.said, clone.Msg(m))
 }
 
