@@ -97,3 +97,11 @@ func Core(c api.Core) api.Core {
 	c.Answers = each(c.Answers, Msg)
 	return c
 }
+
+// Proxy copies a client.
+func Proxy(p api.Proxy) api.Proxy {
+	p.Group = Group(p.Group)
+	p.Op = Op(p.Op)
+	p.Next = Group(p.Next)
+	return p
+}
