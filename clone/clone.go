@@ -105,3 +105,8 @@ func Proxy(p api.Proxy) api.Proxy {
 	p.Next = Group(p.Next)
 	return p
 }
+
+// Tree copies a tree.
+func Tree(t api.Tree) api.Tree {
+	return api.Tree{Levels: each(t.Levels, slices.Clone[[]uint32])}
+}
