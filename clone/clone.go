@@ -110,3 +110,21 @@ func Proxy(p api.Proxy) api.Proxy {
 func Tree(t api.Tree) api.Tree {
 	return api.Tree{Levels: each(t.Levels, slices.Clone[[]uint32])}
 }
+
+// Events copies a row of events.
+func Events(l []api.Event) []api.Event {
+	return each(l, func(e api.Event) api.Event {
+		e.Op = Op(e.Op)
+		e.Group = Group(e.Group)
+		e.Result = Result(e.Result)
+		return e
+	})
+}
+
+// Applied copies a row of what nodes did.
+func Applied(l []api.Applied) []api.Applied {
+	return each(l, func(a api.Applied) api.Applied {
+		a.Entry = Entry(a.Entry)
+		return a
+	})
+}
