@@ -8,7 +8,7 @@ import (
 )
 
 func read(b []byte) (v uint64, s string, at int, e api.Errno) {
-	defer fault.Catch(&e)
+	defer func() { e = fault.Caught(recover(), e) }()
 	l := Of(b)
 	n := l.Number(2)
 	text := l.Text()

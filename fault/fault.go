@@ -13,15 +13,14 @@ func Stop(e api.Errno) {
 	}
 }
 
-// Catch is deferred at a face: what stopped the steps is its error. Any other panic goes on.
-func Catch(e *api.Errno) {
-	x := recover()
-	if x == nil {
-		return
+// Caught tells the error of a face behind its steps, whose deferred function hands in what it recovers, and the error so far. A panic that is no fault goes on.
+func Caught(recovered any, e api.Errno) api.Errno {
+	if recovered == nil {
+		return e
 	}
-	s, ok := x.(stopped)
+	s, ok := recovered.(stopped)
 	if !ok {
-		panic(x)
+		panic(recovered)
 	}
-	*e = s.errno
+	return s.errno
 }

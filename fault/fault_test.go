@@ -7,7 +7,7 @@ import (
 )
 
 func steps(l ...api.Errno) (n int, e api.Errno) {
-	defer Catch(&e)
+	defer func() { e = Caught(recover(), e) }()
 	for _, x := range l {
 		Stop(x)
 		n++
@@ -31,6 +31,6 @@ func TestOtherPanics(t *testing.T) {
 		}
 	}()
 	var e api.Errno
-	defer Catch(&e)
+	defer func() { e = Caught(recover(), e) }()
 	panic("other")
 }

@@ -43,7 +43,7 @@ func EncodeEntry(e api.Entry) ([]byte, api.Errno) {
 
 // DecodeEntry tells the entry at the beginning of bytes, and how many it has.
 func DecodeEntry(b []byte) (e api.Entry, n int, errno api.Errno) {
-	defer fault.Catch(&errno)
+	defer func() { errno = fault.Caught(recover(), errno) }()
 	r := reader{cursor.Of(b)}
 	got := r.entry()
 	if !may.Entry(got) {
@@ -80,7 +80,7 @@ func EncodeState(st api.State) ([]byte, api.Errno) {
 
 // DecodeState tells the state at the beginning of bytes, and how many it has.
 func DecodeState(b []byte) (st api.State, n int, errno api.Errno) {
-	defer fault.Catch(&errno)
+	defer func() { errno = fault.Caught(recover(), errno) }()
 	r := reader{cursor.Of(b)}
 	got := r.state()
 	if !may.State(got) {
