@@ -2,7 +2,6 @@ package script
 
 import (
 	"iter"
-	"slices"
 	"strconv"
 	"strings"
 
@@ -159,11 +158,19 @@ func (r *reader) crash() api.Crash {
 	return c
 }
 
+// kindOf is the kind whose lines begin with a word; 0, if there is none.
+func kindOf(word string) api.DeedKind {
+	for k, name := range names {
+		if name == word {
+			return api.DeedKind(k)
+		}
+	}
+	return 0
+}
+
 // deed reads a deed.
 func (r *reader) deed() api.Deed {
-	name := r.next()
-	kind := slices.Index(names[:], name)
-	d := api.Deed{Kind: api.DeedKind(kind), A: r.number()}
+	d := api.Deed{Kind: kindOf(r.next()), A: r.number()}
 	switch d.Kind {
 	case api.DAsk:
 		d.Op = r.op()
